@@ -1,0 +1,1 @@
+"""Fair lines: the nearest one, or none."""
