@@ -27,10 +27,10 @@ def first_not_rising(numbers, least):
     return None
 
 
-def first_no_breadth(numbers):
-    """The index of the first number that is no measure from 0 on; else None."""
+def first_beyond(numbers, most):
+    """The index of the first number that isn't from 0 to most; else None."""
     for index, number in enumerate(numbers):
-        if not 0 <= number <= GREATEST:
+        if not 0 <= number <= most:
             return index
     return None
 
@@ -57,7 +57,7 @@ def verdict_on(places, heights, half_breadths):
     height = first_not_rising(heights, -GREATEST)
     if height is not None:
         return [WRONG_HEIGHT, height]
-    breadth = first_no_breadth(half_breadths)
+    breadth = first_beyond(half_breadths, GREATEST)
     if breadth is not None:
         return [WRONG_BREADTH, breadth]
     return [TAKEN, 0]

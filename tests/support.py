@@ -26,6 +26,22 @@ def stands(way, k):
     return [4, way, k]
 
 
+def judge(way, k, shape):
+    return [5, way, k] + row(shape)
+
+
+def least(way, k, shape, moves):
+    return [6, way, k] + row(shape) + row(moves)
+
+
+def many(way, k, shape, moves):
+    return [7, way, k] + row(shape) + row(moves)
+
+
+def none(way, k, shape, moves):
+    return [8, way, k] + row(shape) + row(moves)
+
+
 def joined(calls):
     return [number for call in calls for number in call]
 
@@ -53,6 +69,25 @@ def ask(*calls):
 
 def last(*calls):
     return ask(*calls)[-1]
+
+
+def level(xs, ys):
+    """A table whose line 0 of way 0 has these nails."""
+    return make(xs, [0, 1], list(ys) + [7] * len(ys))
+
+
+def station(xs, ys):
+    """A table whose line 1 of way 1 has these nails."""
+    return make([0, 1], xs, [number for y in ys for number in (7, y)])
+
+
+def of_level(call, xs, ys, *rows):
+    """What the call (judge, least, many, none) answers for these nails."""
+    return last(level(xs, ys), call(0, 0, *rows))
+
+
+def of_station(call, xs, ys, *rows):
+    return last(station(xs, ys), call(1, 1, *rows))
 
 
 # Three stations and two levels, no two half-breadths the same, so that a wrong line shows.
